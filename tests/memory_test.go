@@ -4,6 +4,7 @@ import (
 	"bytes"
 	"math"
 	"slices"
+	"strings"
 	"testing"
 
 	"loop.example/s01594/impl"
@@ -157,6 +158,139 @@ func TestFrameMemory(t *testing.T) {
 	}
 	area := spare(layFrames(900, n.bytes(5), n.bytes(200), n.bytes(5), n.bytes(64)).area)
 	checkApart(t, "ScanFrames", [][]byte{area}, func() [][]byte { return recordLists(impl.ScanFrames(area)) })
+}
+
+// guarded is a list with room behind it, and a copy of both, so that any write into it shows.
+type guarded[V comparable] struct {
+	list, before []V
+}
+
+func guard[V comparable](list []V, filler V) guarded[V] {
+	room := slices.Repeat([]V{filler}, len(list)+20)
+	copy(room, list)
+	return guarded[V]{list: room[:len(list)], before: slices.Clone(room)}
+}
+
+func (g guarded[V]) kept() bool {
+	return slices.Equal(g.list[:cap(g.list)], g.before)
+}
+
+// spoil writes over all of a list, the room behind it too.
+func spoil[V any](list []V, filler V) {
+	for i := range list[:cap(list)] {
+		list[:cap(list)][i] = filler
+	}
+}
+
+// checkTreeCall asks that the call keeps its three lists, and that its answer is memory of its own:
+// answers told twice are the same after the first one and then the arguments were written over.
+func checkTreeCall(t *testing.T, name string, tree impl.Tree, r impl.Request, x impl.Txn, call func(impl.Tree, impl.Request, impl.Txn) impl.Prepared) {
+	t.Helper()
+	nodes := guard(tree.Nodes, impl.Node{Path: "/spare"})
+	ops := guard(r.Ops, impl.Op{Kind: 7})
+	effects := guard(x.Effects, impl.Effect{Node: impl.Node{Path: "/spare"}})
+	again := func() impl.Prepared {
+		return call(impl.Tree{Nodes: nodes.list}, impl.Request{Ops: ops.list}, impl.Txn{Zxid: x.Zxid, Effects: effects.list})
+	}
+	first, second := again(), again()
+	told := impl.Prepared{Code: second.Code, Index: second.Index, Names: slices.Clone(second.Names),
+		Txn: impl.Txn{Zxid: second.Txn.Zxid, Effects: slices.Clone(second.Txn.Effects)}}
+	spoil(first.Names, "spoiled")
+	spoil(first.Txn.Effects, impl.Effect{Del: true})
+	if !nodes.kept() || !ops.kept() || !effects.kept() {
+		t.Errorf("%s: an argument was written into, or is the answer's memory", name)
+	}
+	spoil(nodes.list, impl.Node{})
+	spoil(ops.list, impl.Op{})
+	spoil(effects.list, impl.Effect{})
+	if !samePrepared(second, told) {
+		t.Errorf("%s: the answer is memory of an argument or of another answer", name)
+	}
+}
+
+// checkTreeAnswer asks the same of a call that answers a tree.
+func checkTreeAnswer(t *testing.T, name string, tree impl.Tree, x impl.Txn) {
+	t.Helper()
+	nodes := guard(tree.Nodes, impl.Node{Path: "/spare"})
+	effects := guard(x.Effects, impl.Effect{Node: impl.Node{Path: "/spare"}})
+	again := func() impl.Tree {
+		return impl.ApplyTxn(impl.Tree{Nodes: nodes.list}, impl.Txn{Zxid: x.Zxid, Effects: effects.list})
+	}
+	first, second := again(), again()
+	told := slices.Clone(second.Nodes)
+	spoil(first.Nodes, impl.Node{Path: "spoiled"})
+	if !nodes.kept() || !effects.kept() {
+		t.Errorf("%s: an argument was written into, or is the answer's memory", name)
+	}
+	spoil(nodes.list, impl.Node{})
+	spoil(effects.list, impl.Effect{})
+	if !slices.Equal(second.Nodes, told) {
+		t.Errorf("%s: the answer is memory of an argument or of another answer", name)
+	}
+}
+
+func TestTreeMemory(t *testing.T) {
+	n := &numbers{state: 77}
+	for range 500 {
+		tree := n.anyTree(3)
+		r, x := n.request(tree), impl.Prepare(tree, n.request(tree), 3).Txn
+		checkTreeCall(t, "Prepare", tree, r, x, func(tree impl.Tree, r impl.Request, _ impl.Txn) impl.Prepared {
+			return impl.Prepare(tree, r, 4)
+		})
+		checkTreeCall(t, "Children", tree, r, x, func(tree impl.Tree, _ impl.Request, _ impl.Txn) impl.Prepared {
+			return impl.Prepared{Names: impl.Children(tree, "/")}
+		})
+		checkTreeCall(t, "ValidTree and ValidTxn", tree, r, x, func(tree impl.Tree, _ impl.Request, x impl.Txn) impl.Prepared {
+			impl.ValidTree(tree)
+			impl.ValidTxn(x)
+			return impl.Prepared{}
+		})
+		checkTreeAnswer(t, "ApplyTxn", tree, x)
+		checkTreeAnswer(t, "ApplyTxn of nothing", tree, impl.Txn{Zxid: 1})
+	}
+}
+
+// TestTreePanics hands bad forms to every function of the tree: a panic fails the test.
+func TestTreePanics(t *testing.T) {
+	odd := []int64{math.MinInt64, -2, -1, 0, 1, 4, 5, impl.MaxStat, impl.MaxStat + 1, math.MaxInt64}
+	paths := []string{"", "/", "//", "a", "/a", "/a/", "/a/b", "/a/b/c/d/e/f", "/a/b/c/d/e/f/g", "\xff", strings.Repeat("/", 100000), strings.Repeat("/a", 100000)}
+	var nodes []impl.Node
+	var ops []impl.Op
+	var effects []impl.Effect
+	for _, path := range paths {
+		impl.ValidPath(path)
+		for _, x := range odd {
+			for _, n := range nodeFields(impl.Node{Path: path, Data: path}, x) {
+				nodes = append(nodes, n)
+				effects = append(effects, impl.Effect{Node: n}, impl.Effect{Del: true, Node: n})
+			}
+			for kind := range int64(6) {
+				ops = append(ops, impl.Op{Kind: kind, Path: path, Version: x}, impl.Op{Kind: x, Path: path, Data: path, Version: kind, Seq: true})
+			}
+		}
+	}
+	trees := []impl.Tree{{}, impl.NewTree(), {Nodes: nodes}, wideTree(impl.MaxNodes), pathTree("/a", "/a/b/c"), wideTree(5000)}
+	for _, n := range nodes {
+		trees = append(trees, impl.Tree{Nodes: []impl.Node{n}}, impl.Tree{Nodes: []impl.Node{{Path: "/"}, n}})
+	}
+	for i, tree := range trees {
+		impl.ValidTree(tree)
+		impl.Children(tree, pick(&numbers{state: uint64(i)}, paths...))
+		impl.ApplyTxn(tree, impl.Txn{Zxid: 1, Effects: effects})
+		for _, x := range odd {
+			impl.Prepare(tree, impl.Request{}, x)
+			impl.Prepare(tree, impl.Request{Ops: ops}, x)
+		}
+	}
+	for _, e := range effects {
+		impl.ValidTxn(impl.Txn{Zxid: 1, Effects: []impl.Effect{e}})
+		impl.ApplyTxn(impl.NewTree(), impl.Txn{Zxid: 1, Effects: []impl.Effect{e}})
+	}
+	for _, tree := range trees[:6] {
+		for _, o := range ops {
+			impl.Prepare(tree, impl.Request{Ops: []impl.Op{o}}, 1)
+		}
+	}
 }
 
 // TestNothingPanics hands bad forms to every function: a panic fails the test.
