@@ -57,6 +57,10 @@ func (t *table[V]) get(key int64) (V, bool) {
 	return t.rows[at].value, true
 }
 
+func (t *table[V]) empty() bool {
+	return len(t.rows) == 0
+}
+
 func (t *table[V]) all() iter.Seq2[int64, V] {
 	return func(yield func(int64, V) bool) {
 		for _, r := range t.rows {
@@ -97,12 +101,9 @@ func DiskWrite(d Disk, block int64, data []byte) Disk {
 	if !hasBlock(d, block) || len(data) != BlockSize {
 		return Disk{}
 	}
-	pending := make([]Write, 0, len(d.Pending)+1)
-	for _, w := range d.Pending {
-		pending = append(pending, Write{w.Block, bytes.Clone(w.Data)})
-	}
-	pending = append(pending, Write{block, bytes.Clone(data)})
-	return Disk{Durable: bytes.Clone(d.Durable), Pending: pending}
+	after := copyDisk(d)
+	after.Pending = append(after.Pending, Write{block, bytes.Clone(data)})
+	return after
 }
 
 func DiskRead(d Disk, block int64) []byte {
@@ -139,6 +140,15 @@ func DiskCrash(d Disk, choices []int64) Disk {
 		setBlock(durable, w.Block, tornBlock(before, blockBytes(w.Data), keptBytes(choices, i)))
 	}
 	return Disk{Durable: durable}
+}
+
+func copyDisk(d Disk) Disk {
+	// One place more than is needed here: mostly a copy is made to write once.
+	pending := make([]Write, 0, len(d.Pending)+1)
+	for _, w := range d.Pending {
+		pending = append(pending, Write{w.Block, bytes.Clone(w.Data)})
+	}
+	return Disk{Durable: bytes.Clone(d.Durable), Pending: pending}
 }
 
 func blockCount(d Disk) int64 {
