@@ -102,8 +102,14 @@ func DiskWrite(d Disk, block int64, data []byte) Disk {
 		return Disk{}
 	}
 	after := copyDisk(d)
-	after.Pending = append(after.Pending, Write{block, bytes.Clone(data)})
+	addWrite(&after, block, blockBytes(data))
 	return after
+}
+
+// addWrite is for a disk that is the caller's own, and has the block and room
+// for the write.
+func addWrite(d *Disk, block int64, content blockBytes) {
+	d.Pending = append(d.Pending, Write{block, content[:]})
 }
 
 func DiskRead(d Disk, block int64) []byte {
